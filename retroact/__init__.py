@@ -1,0 +1,1 @@
+"""Retroact: programs of actors whose past can be patched."""
