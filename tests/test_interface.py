@@ -1,0 +1,128 @@
+"""The names, places and arguments of what DOC.md lists, and its examples."""
+
+import importlib
+import inspect
+import unittest
+
+from retroact.errors import Fault, TextError
+from retroact.handlers import run_handler
+from retroact.machine import apply, first_state, inputs_of
+from retroact.program import Actor, Program
+from retroact.reader import read_program
+from retroact.values import evaluate, evaluate_all
+from retroact.writer import write_program
+
+FUNCTIONS = {
+    "program": {"same_program": "(program, other)", "is_let_by": "(program)"},
+    "lexer": {"tokens": "(line, number)"},
+    "reader": {"read_program": "(text)"},
+    "writer": {"write_program": "(program)", "write_expression": "(expression)"},
+    "values": {"is_value": "(number)", "evaluate": "(expression, names)", "evaluate_all": "(expressions, names)"},
+    "handlers": {
+        "same_outcome": "(outcome, other)", "locals_of": "(body, known)",
+        "run_handler": "(handler, states, spawned, arguments)",
+        "run_with": "(handler, states, spawned, arguments, reckoner)",
+        "begin_with": "(actor, arguments, reckoner)",
+    },
+    "machine": {
+        "same_state": "(state, other)", "born": "(program, kind, arguments)", "first_state": "(program)",
+        "is_possible": "(program, state, event)", "apply": "(program, state, event, moment)",
+        "apply_with": "(program, state, event, moment, engine)", "inputs_of": "(program, state)",
+    },
+}
+CLASSES = {
+    "errors": {
+        "RetroactError": {},
+        "TextError": {"__init__": "(self, line, column, reason)"},
+        "TooLarge": {"__init__": "(self, limit)"},
+        "Fault": {"__init__": "(self, reason)"},
+        "ImpossibleEvent": {"__init__": "(self, event)"},
+        "InvalidMoment": {"__init__": "(self, moment)"},
+        "InvalidLine": {"__init__": "(self, number)"},
+        "InvalidRules": {"__init__": "(self, number)"},
+        "NotLayered": {"__init__": "(self, names)"},
+        "InvalidPatch": {"__init__": "(self, name)"},
+        "InvalidPrices": {"__init__": "(self, name)"},
+        "UnknownEffect": {"__init__": "(self, name)"},
+        "ConversionFault": {"__init__": "(self, path, reason)"},
+        "InvalidUnknown": {"__init__": "(self)"},
+        "InvalidJournal": {"__init__": "(self)"},
+    },
+    "program": {
+        "Actor": {"__init__": "(self, name, parameters, states, handlers)"},
+        "Program": {"__init__": "(self, effects, actors)"},
+    },
+    "handlers": {
+        "Outcome": {"__init__": "(self, kind, states, deeds, reason=None)"},
+        "Reckoner": {"reckon": "(self, expression, names)", "is_true": "(self, number)", "whole": "(self, number)",
+                     "told": "(self, integer)"},
+    },
+    "machine": {
+        "Being": {"__init__": "(self, kind, states, *, spawned=0, sent=0, called=0, mode='on')"},
+        "State": {"__init__": "(self, beings, waiting, pending, gone)"},
+        "Plain": {"run": "(self, handler, states, spawned, arguments)", "begin": "(self, actor, arguments)"},
+    },
+}
+
+
+class InterfaceTests(unittest.TestCase):
+    def test_functions(self):
+        for module, functions in FUNCTIONS.items():
+            for name, arguments in functions.items():
+                function = getattr(importlib.import_module("retroact." + module), name)
+                self.assertEqual(function.__module__, "retroact." + module)
+                self.assertEqual(str(inspect.signature(function)), arguments, name)
+
+    def test_classes(self):
+        for module, classes in CLASSES.items():
+            for name, methods in classes.items():
+                owner = getattr(importlib.import_module("retroact." + module), name)
+                self.assertEqual(owner.__module__, "retroact." + module)
+                for method, arguments in methods.items():
+                    self.assertIn(method, vars(owner), name)
+                    self.assertEqual(str(inspect.signature(vars(owner)[method])), arguments, (name, method))
+
+
+class ExampleTests(unittest.TestCase):
+    def test_reading_and_writing(self):
+        text = "effect mail 1\nactor main\n  state n = 2\n  on add(x)\n    set n = n + x\n    call mail(n) then sent\n  end\nend\n"
+        program = read_program(text)
+        self.assertEqual((program.effects, program.actors[0].states, program.actors[0].handlers[0][2][1]),
+                         ([("mail", 1)], [("n", ("number", 2))], ("call", "mail", [("name", "n")], "sent")))
+        self.assertTrue(write_program(program) == text)
+        with self.assertRaises(TextError):
+            read_program("actor main\n  on add\n    set n = y\n  end\nend")
+
+    def test_values(self):
+        self.assertEqual(evaluate(("plus", ("name", "x"), ("number", 2)), {"x": 3}), 5)
+        self.assertEqual(evaluate(("over", ("number", -7), ("number", 2)), {}), -4)
+        self.assertEqual(evaluate_all([("number", 1), ("not", ("name", "x"))], {"x": 3}), (1, 0))
+        with self.assertRaises(Fault):
+            evaluate(("rest", ("number", 1), ("number", 0)), {})
+
+    def test_handlers(self):
+        body = [("set", "n", ("plus", ("name", "n"), ("name", "x"))), ("spawn", "helper", [("name", "n")], "c")]
+        body = body + [("send", ("child", ("name", "c")), "go", [("number", 1)])]
+        outcome = run_handler(("add", ["x"], body), {"n": 4}, 2, (3,))
+        self.assertEqual((outcome.kind, outcome.states, outcome.deeds),
+                         ("done", {"n": 7}, [("spawn", "helper", (7,)), ("send", ("child", 2), "go", (1,))]))
+        self.assertEqual(run_handler(("add", ["x"], body + [("fail",)]), {"n": 4}, 2, (3,)).deeds, [])
+
+    def test_machine(self):
+        body = [("set", "n", ("plus", ("name", "n"), ("name", "x"))), ("call", "pay", [("name", "n")], "paid")]
+        actor = Actor("shop", [], [("n", ("number", 4))], [("add", ["x"], body), ("paid", ["y"], [("stop",)])])
+        program = Program([("pay", 1)], [actor])
+        state = first_state(program)
+        self.assertEqual((state.beings[()].states, inputs_of(program, state)),
+                         ({"n": 4}, [((), "add", 1), ((), "paid", 1)]))
+        state, told = apply(program, state, ("input", (), "add", (3,)), 0)
+        self.assertEqual((told, state.waiting), (("input", (), "add"), [((), "add", (3,), ("input", 0))]))
+        state, told = apply(program, state, ("deliver", 0), 1)
+        self.assertEqual(told, ("handled", (), "add", "done", None))
+        self.assertEqual((state.pending, state.gone), ([(((), 0), "pay", (7,), "paid")], [(((), 0), "pay", (7,))]))
+        self.assertEqual(apply(program, state, ("answer", 0, 1), 2)[0].waiting,
+                         [((), "paid", (1,), ("answer", ((), 0)))])
+
+
+if __name__ == "__main__":
+    unittest.main()
