@@ -78,11 +78,15 @@ def apply(program, state, event, moment):
 
 def apply_with(program, state, event, moment, engine):
     """Do the same as `apply` with another engine, for an event that is possible."""
+    # All that follows changes this copy only, and nothing in it is shared with the state before.
+    after = State(_copied_beings(state), state.waiting, state.pending, state.gone)
     if event[0] == "input":
-        return _apply_input(state, event, moment)
-    if event[0] == "deliver":
-        return _apply_deliver(program, state, event, engine)
-    return _apply_answer(state, event)
+        told = _take_input(after, event, moment)
+    elif event[0] == "deliver":
+        told = _deliver(program, after, event, engine)
+    else:
+        told = _take_answer(after, event)
+    return after, told
 
 
 def inputs_of(program, state):
@@ -120,50 +124,46 @@ def _handler_that_takes(program, state, path, message, arguments):
     return handler_of(program, being.kind, message, len(arguments))
 
 
-def _apply_input(state, event, moment):
+def _copied_beings(state):
+    copies = {}
+    for path in state.beings:
+        being = state.beings[path]
+        copies[path] = Being(being.kind, being.states, spawned=being.spawned, sent=being.sent, called=being.called,
+                             mode=being.mode)
+    return copies
+
+
+def _take_input(after, event, moment):
     _, path, message, arguments = event
-    waiting = state.waiting + [(path, message, arguments, ("input", moment))]
-    return State(state.beings, waiting, state.pending, state.gone), ("input", path, message)
+    after.waiting.append((path, message, arguments, ("input", moment)))
+    return ("input", path, message)
 
 
-def _apply_answer(state, event):
+def _take_answer(after, event):
     _, at, number = event
-    key, _, _, message = state.pending[at]
-    pending = state.pending[:at] + state.pending[at + 1:]
-    waiting = list(state.waiting)
+    key, _, _, message = after.pending.pop(at)
     if message is not None:
-        waiting.append((key[0], message, (number,), ("answer", key)))
-    return State(state.beings, waiting, pending, state.gone), ("answered", key)
+        after.waiting.append((key[0], message, (number,), ("answer", key)))
+    return ("answered", key)
 
 
-def _apply_deliver(program, state, event, engine):
-    _, at = event
-    path, message, arguments, _ = state.waiting[at]
-    waiting = state.waiting[:at] + state.waiting[at + 1:]
-    after = State(state.beings, waiting, state.pending, state.gone)
-    handler = _handler_that_takes(program, state, path, message, arguments)
+def _deliver(program, after, event, engine):
+    path, message, arguments, _ = after.waiting.pop(event[1])
+    handler = _handler_that_takes(program, after, path, message, arguments)
     if handler is None:
-        return after, ("dropped", path, message)
-    outcome = _run_being(program, after, path, handler, arguments, engine)
-    return after, ("handled", path, message, outcome.kind, outcome.reason)
-
-
-def _run_being(program, after, path, handler, arguments, engine):
-    """Let the actor with the path handle a message in a new state, and return the outcome."""
-    before = after.beings[path]
-    outcome = engine.run(handler, before.states, before.spawned, arguments)
-    # The being from before also stands in the state that the event is applied to: it stays as it is.
-    being = Being(before.kind, outcome.states, spawned=before.spawned, sent=before.sent, called=before.called)
-    after.beings[path] = being
+        return ("dropped", path, message)
+    being = after.beings[path]
+    outcome = engine.run(handler, being.states, being.spawned, arguments)
+    being.states = dict(outcome.states)
     for deed in outcome.deeds:
         _carry_out(program, after, path, deed, engine)
     if outcome.kind != "done":
         being.mode = outcome.kind
-    return outcome
+    return ("handled", path, message, outcome.kind, outcome.reason)
 
 
 def _carry_out(program, after, path, deed, engine):
-    """Carry out a deed of the actor with the path in a new state."""
+    """Carry out a deed of the actor with the path."""
     being = after.beings[path]
     if deed[0] == "send":
         _carry_out_send(after, path, being, deed)

@@ -451,6 +451,34 @@ class EngineTests(unittest.TestCase, StateChecks):
             self.assertEqual(first, second)
 
 
+class NewStateTests(unittest.TestCase, StateChecks):
+    def test_the_state_behind_an_event_shares_nothing_that_can_be_changed(self):
+        beings = {(): main_being(), (0,): helper_being()}
+        messages = [((), "grow", (1,), ("input", 0)), ((), "crash", (), ("input", 1)), ((5,), "add", (1,), ("input", 2))]
+        call = (((), 0), "ring", ())
+        for event in (("input", (), "add", (1,)), ("deliver", 0), ("deliver", 1), ("deliver", 2), ("answer", 0, 1)):
+            state = State(beings, messages, [call + ("add",)], [call])
+            kept = frozen(state)
+            behind, _ = apply(PROGRAM, state, event, 9)
+            for path in list(behind.beings):
+                behind.beings[path].states["n"] = 1234
+                behind.beings[path].mode = "changed"
+            for part in (behind.beings, behind.waiting, behind.pending, behind.gone):
+                part.clear()
+            self.assert_same_state(state, kept)
+
+    def test_the_states_of_an_outcome_are_copied(self):
+        class Keeping(Plain):
+            def run(self, handler, states, spawned, arguments):
+                self.outcome = Plain.run(self, handler, states, spawned, arguments)
+                return self.outcome
+
+        engine = Keeping()
+        behind, _ = apply_with(PROGRAM, state_of(waiting=[((), "add", (1,), ("input", 0))]), ("deliver", 0), 1, engine)
+        behind.beings[()].states["n"] = 1234
+        self.assertEqual(engine.outcome.states, {"n": 5})
+
+
 class InputsTests(unittest.TestCase):
     def test_order(self):
         beings = {(1,): helper_being(), (0, 2): Being("main", {"n": 1}), (): main_being(), (0,): helper_being(mode="stopped"),
