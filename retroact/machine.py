@@ -79,7 +79,7 @@ def apply(program, state, event, moment):
 def apply_with(program, state, event, moment, engine):
     """Do the same as `apply` with another engine, for an event that is possible."""
     # All that follows changes this copy only, and nothing in it is shared with the state before.
-    after = State(_copied_beings(state), state.waiting, state.pending, state.gone)
+    after = copied_state(state)
     if event[0] == "input":
         told = _take_input(after, event, moment)
     elif event[0] == "deliver":
@@ -98,6 +98,16 @@ def inputs_of(program, state):
             for message, parameters, _ in actor_of(program, being.kind).handlers:
                 found.append((path, message, len(parameters)))
     return found
+
+
+def copied_state(state):
+    """Return a copy of a state that shares no being with it."""
+    copies = {}
+    for path in state.beings:
+        being = state.beings[path]
+        copies[path] = Being(being.kind, being.states, spawned=being.spawned, sent=being.sent, called=being.called,
+                             mode=being.mode)
+    return State(copies, state.waiting, state.pending, state.gone)
 
 
 def _attributes_of_beings(state):
@@ -122,15 +132,6 @@ def _handler_that_takes(program, state, path, message, arguments):
     if being is None or being.mode != "on":
         return None
     return handler_of(program, being.kind, message, len(arguments))
-
-
-def _copied_beings(state):
-    copies = {}
-    for path in state.beings:
-        being = state.beings[path]
-        copies[path] = Being(being.kind, being.states, spawned=being.spawned, sent=being.sent, called=being.called,
-                             mode=being.mode)
-    return copies
 
 
 def _take_input(after, event, moment):

@@ -2,6 +2,7 @@
 
 import random
 
+from retroact.machine import apply, first_state, inputs_of
 from retroact.program import Actor, Program
 
 WORDS = ("plus", "minus", "times", "over", "rest", "less", "atmost", "same", "and", "or")
@@ -107,7 +108,30 @@ class Maker:
             choices.append(("answer", self.dice.randrange(len(state.pending)), self.dice.randint(-2, 9)))
         return self.dice.choice(choices) if choices else None
 
+    def events(self, program, many):
+        """Return a list of at most so many events that are possible one after the other."""
+        events, state = [], first_state(program)
+        while len(events) < many:
+            event = self.event(state, inputs_of(program, state))
+            if event is None:
+                break
+            state, _ = apply(program, state, event, len(events))
+            events.append(event)
+        return events
+
 
 def programs(many):
     """Return a list of programs that are let by, the same ones at each call."""
     return [Maker(seed).program() for seed in range(many)]
+
+
+def histories(many, length):
+    """Return a list of pairs of a program and a list of events of it, at least one, the same ones at each call."""
+    found = []
+    for seed in range(many):
+        maker = Maker(seed)
+        program = maker.program()
+        events = maker.events(program, length)
+        if events:
+            found.append((program, events))
+    return found

@@ -4,8 +4,10 @@ import importlib
 import inspect
 import unittest
 
-from retroact.errors import Fault, TextError
+from retroact.errors import Fault, InvalidMoment, TextError
 from retroact.handlers import run_handler
+from retroact.history import changes
+from retroact.journal import read_event, read_journal, replay, write_event
 from retroact.machine import apply, first_state, inputs_of
 from retroact.program import Actor, Program
 from retroact.reader import read_program
@@ -29,6 +31,16 @@ FUNCTIONS = {
         "is_possible": "(program, state, event)", "apply": "(program, state, event, moment)",
         "apply_with": "(program, state, event, moment, engine)", "inputs_of": "(program, state)",
     },
+    "history": {"states_of": "(program, events)", "changes": "(first, second)"},
+    "journal": {
+        "write_event": "(event)", "read_event": "(line)", "write_journal": "(events)", "read_journal": "(text)",
+        "replay": "(program, text)",
+    },
+    "patches": {
+        "check_patch": "(old, patch)", "same_patch": "(program)", "convert": "(old, patch, state)",
+        "converted_message": "(patch, kind, message, arguments)", "converted_call": "(patch, effect, arguments)",
+    },
+    "branches": {"branch": "(program, events, moment, patch)", "branch_events": "(one)"},
 }
 CLASSES = {
     "errors": {
@@ -62,6 +74,12 @@ CLASSES = {
         "State": {"__init__": "(self, beings, waiting, pending, gone)"},
         "Plain": {"run": "(self, handler, states, spawned, arguments)", "begin": "(self, actor, arguments)"},
     },
+    "history": {"History": {
+        "__init__": "(self, program, *, every=8)", "record": "(self, event)", "events": "(self)", "told": "(self)",
+        "state_at": "(self, moment)", "kept": "(self)", "forget": "(self, moments)", "cut": "(self, moment)",
+    }},
+    "patches": {"Patch": {"__init__": "(self, program, kinds, effects)"}},
+    "branches": {"Branch": {}},
 }
 
 
@@ -122,6 +140,19 @@ class ExampleTests(unittest.TestCase):
         self.assertEqual((state.pending, state.gone), ([(((), 0), "pay", (7,), "paid")], [(((), 0), "pay", (7,))]))
         self.assertEqual(apply(program, state, ("answer", 0, 1), 2)[0].waiting,
                          [((), "paid", (1,), ("answer", ((), 0)))])
+
+    def test_histories_and_journals(self):
+        body = [("set", "n", ("plus", ("name", "n"), ("name", "x"))), ("call", "pay", [("name", "n")], "paid")]
+        actor = Actor("shop", [], [("n", ("number", 4))], [("add", ["x"], body), ("paid", ["y"], [("stop",)])])
+        program = Program([("pay", 1)], [actor])
+        self.assertEqual((write_event(("input", (0, 2), "add", (3, -1))), read_event("answer 0 -5")),
+                         ("input 0.2 add 3 -1", ("answer", 0, -5)))
+        text = "input main add 3\ndeliver 0\nansw"
+        self.assertEqual(read_journal(text), [("input", (), "add", (3,)), ("deliver", 0)])
+        history = replay(program, text)
+        self.assertEqual(changes(history.state_at(0), history.state_at(2)), [("state", (), "n", 4, 7), ("calls", ((), 0))])
+        with self.assertRaises(InvalidMoment):
+            history.state_at(3)
 
 
 if __name__ == "__main__":
