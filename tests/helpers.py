@@ -2,7 +2,7 @@
 
 import copy
 
-from retroact.errors import Fault, TextError
+from retroact.errors import Fault, TextError, UnknownEffect
 from retroact.program import Actor, Program
 
 
@@ -29,6 +29,15 @@ def text_error(call, *arguments):
         call(*arguments)
     except TextError as error:
         return (error.line, error.column, error.reason)
+    return None
+
+
+def name_unknown(function, *arguments):
+    """Return the name of the UnknownEffect that a call raises, or None."""
+    try:
+        function(*arguments)
+    except UnknownEffect as error:
+        return error.name
     return None
 
 

@@ -73,7 +73,7 @@ class RecordTests(unittest.TestCase):
     def test_lists_are_new(self):
         history = history_of(PROGRAM, EVENTS)
         for method in (history.events, history.told, history.kept):
-            kept = method()
+            kept = frozen(method())
             method().clear()
             self.assertEqual(method(), kept)
         history.record(("deliver", 0))

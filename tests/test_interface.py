@@ -9,8 +9,11 @@ from retroact.handlers import run_handler
 from retroact.history import changes
 from retroact.journal import read_event, read_journal, replay, write_event
 from retroact.machine import apply, first_state, inputs_of
+from retroact.plans import accepts, cost, plan
+from retroact.prices import Prices
 from retroact.program import Actor, Program
 from retroact.reader import read_program
+from retroact.saga import Outside, Saga
 from retroact.values import evaluate, evaluate_all
 from retroact.writer import write_program
 
@@ -41,6 +44,15 @@ FUNCTIONS = {
         "converted_message": "(patch, kind, message, arguments)", "converted_call": "(patch, effect, arguments)",
     },
     "branches": {"branch": "(program, events, moment, patch)", "branch_events": "(one)"},
+    "differences": {"difference": "(past, now)", "calls_since": "(state, other)"},
+    "prices": {
+        "undo_cost": "(prices, call)", "do_cost": "(prices, call)", "change_cost": "(prices, first, second)",
+    },
+    "plans": {
+        "is_plan": "(there, here, prices, deeds)", "cost": "(there, here, prices, deeds)",
+        "plan": "(there, here, prices)", "is_fair": "(there, here, prices, paper)",
+        "accepts": "(there, here, prices, deeds, paper)",
+    },
 }
 CLASSES = {
     "errors": {
@@ -80,6 +92,12 @@ CLASSES = {
     }},
     "patches": {"Patch": {"__init__": "(self, program, kinds, effects)"}},
     "branches": {"Branch": {}},
+    "prices": {"Prices": {"__init__": "(self, effects)"}},
+    "saga": {
+        "Outside": {"__init__": "(self, calls, *, losses=())", "send": "(self, number, deed)", "in_force": "(self)",
+                    "done": "(self)"},
+        "Saga": {"__init__": "(self, there, here, deeds, *, text='')", "step": "(self, outside)", "text": "(self)"},
+    },
 }
 
 
@@ -99,6 +117,9 @@ class InterfaceTests(unittest.TestCase):
                 for method, arguments in methods.items():
                     self.assertIn(method, vars(owner), name)
                     self.assertEqual(str(inspect.signature(vars(owner)[method])), arguments, (name, method))
+
+    def test_properties(self):
+        self.assertIsInstance(vars(Saga)["is_over"], property)
 
 
 class ExampleTests(unittest.TestCase):
@@ -153,6 +174,20 @@ class ExampleTests(unittest.TestCase):
         self.assertEqual(changes(history.state_at(0), history.state_at(2)), [("state", (), "n", 4, 7), ("calls", ((), 0))])
         with self.assertRaises(InvalidMoment):
             history.state_at(3)
+
+    def test_plans_and_sagas(self):
+        prices = Prices({"pay": (5, 2, (1, 1))})
+        there = [(((), 0), "pay", (10,)), (((), 1), "pay", (3,))]
+        here = [(((), 0), "pay", (12,))]
+        deeds, paper = plan(there, here, prices)
+        self.assertEqual((deeds, cost(there, here, prices, deeds), accepts(there, here, prices, deeds, paper)),
+                         ([("change", 0, 0), ("undo", 1)], 8, True))
+        outside = Outside(there, losses=["back"])
+        saga = Saga(there, here, deeds)
+        self.assertEqual([saga.step(outside) for turn in range(5)],
+                         [("sent", 0, False), ("sent", 0, True), ("noted", 0), ("sent", 1, True), ("noted", 1)])
+        self.assertEqual((outside.done(), outside.in_force(), saga.text()),
+                         ([0, 1], [(((), 0), "pay", (12,))], "done 0\ndone 1\n"))
 
 
 if __name__ == "__main__":

@@ -165,7 +165,7 @@ class CheckTests(unittest.TestCase):
                                   ("four", [A, B, C, D], [var("e")])):
             for name in right:
                 self.check_right(patch_with({"main": main_with(messages=[(old, "plus", [name])])}))
-            for name in wrong + [var("x"), var("n"), var("m")]:
+            for name in wrong + [var("x"), var("n"), var("m"), var("ab"), var("abcd")]:
                 self.check_kind("main", main_with(messages=[(old, "plus", [name])]))
                 self.check_kind("main", main_with(messages=[(old, "both", [num(1), ("not", name)])]))
 
@@ -253,6 +253,9 @@ class ConvertTests(unittest.TestCase):
         }, [], [], [])
         after = convert(OLD, PATCH, state)
         self.assertEqual(sorted(after.beings), [(), (1,), (1, 1), (2,)])
+        # The order in which the state has its beings does not matter.
+        turned = State({path: state.beings[path] for path in list(state.beings)[::-1]}, [], [], [])
+        self.assertEqual(sorted(convert(OLD, PATCH, turned).beings), [(), (1,), (1, 1), (2,)])
         patch = patch_with({"helper": None, "other": ("plain", [], [])})
         self.assertEqual(sorted(convert(OLD, patch, state).beings), [(), (0,), (10,)])
         self.assertEqual(convert(OLD, patch, state).beings[(0,)].kind, "plain")
