@@ -4,15 +4,19 @@ import importlib
 import inspect
 import unittest
 
-from retroact.errors import Fault, InvalidMoment, TextError
+from retroact.answers import ask, model
+from retroact.errors import Fault, InvalidMoment, NotLayered, TextError
+from retroact.facts import facts_of
 from retroact.handlers import run_handler
 from retroact.history import changes
 from retroact.journal import read_event, read_journal, replay, write_event
 from retroact.machine import apply, first_state, inputs_of
+from retroact.papers import accepts_book, accepts_derivation, derivation, make_book
 from retroact.plans import accepts, cost, plan
 from retroact.prices import Prices
 from retroact.program import Actor, Program
 from retroact.reader import read_program
+from retroact.rules import layers, sorted_facts
 from retroact.saga import Outside, Saga
 from retroact.values import evaluate, evaluate_all
 from retroact.writer import write_program
@@ -52,6 +56,16 @@ FUNCTIONS = {
         "is_plan": "(there, here, prices, deeds)", "cost": "(there, here, prices, deeds)",
         "plan": "(there, here, prices)", "is_fair": "(there, here, prices, paper)",
         "accepts": "(there, here, prices, deeds, paper)",
+    },
+    "facts": {"facts_of": "(program, events)"},
+    "rules": {
+        "check_rules": "(rules)", "layers": "(rules)", "fact_key": "(fact)", "sorted_facts": "(facts)",
+        "bind": "(atom, constants)",
+    },
+    "answers": {"model": "(rules, facts)", "ask": "(rules, facts, atom)"},
+    "papers": {
+        "make_book": "(rules, facts)", "accepts_book": "(rules, facts, book)", "derivation": "(rules, facts, fact)",
+        "accepts_derivation": "(rules, facts, known, steps)",
     },
 }
 CLASSES = {
@@ -188,6 +202,38 @@ class ExampleTests(unittest.TestCase):
                          [("sent", 0, False), ("sent", 0, True), ("noted", 0), ("sent", 1, True), ("noted", 1)])
         self.assertEqual((outside.done(), outside.in_force(), saga.text()),
                          ([0, 1], [(((), 0), "pay", (12,))], "done 0\ndone 1\n"))
+
+    def test_facts(self):
+        body = [("set", "n", ("plus", ("name", "n"), ("name", "x"))), ("call", "pay", [("name", "n")], None)]
+        program = Program([("pay", 1)], [Actor("shop", [], [("n", ("number", 4))], [("add", ["x"], body)])])
+        facts = facts_of(program, [("input", (), "add", (3,)), ("deliver", 0)])
+        self.assertEqual([fact for fact in facts if fact[0] in ("argument", "called", "caused")],
+                         [("argument", ((), 0, 0, 7)), ("called", ((), 0, "pay", 1)), ("caused", (0, 1))])
+        self.assertEqual([fact for fact in facts if fact[0] == "state"],
+                         [("state", ((), "n", 4, 0)), ("state", ((), "n", 4, 1)), ("state", ((), "n", 7, 2))])
+
+    def test_rules_answers_and_papers(self):
+        x = ("variable", "x")
+        y = ("variable", "y")
+        z = ("variable", "z")
+        way = [(("way", (x, y)), [("holds", ("edge", (x, y)))]),
+               (("way", (x, z)), [("holds", ("way", (x, y))), ("holds", ("edge", (y, z)))])]
+        rules = way + [(("lost", (x, y)), [("holds", ("spot", (x,))), ("holds", ("spot", (y,))), ("fails", ("way", (x, y)))])]
+        self.assertEqual(layers(rules), {"way": 0, "edge": 0, "lost": 1, "spot": 0})
+        self.assertEqual(sorted_facts([("b", (1,)), ("a", ((0,),)), ("a", (5,)), ("a", ("s",))]),
+                         [("a", (5,)), ("a", ("s",)), ("a", ((0,),)), ("b", (1,))])
+        with self.assertRaises(NotLayered):
+            layers([(("p", ()), [("fails", ("p", ()))])])
+        facts = [("edge", (1, 2)), ("edge", (2, 3)), ("spot", (1,)), ("spot", (3,))]
+        self.assertEqual(ask(rules, facts, ("way", (1, y))), [("way", (1, 2)), ("way", (1, 3))])
+        self.assertEqual((ask(rules, facts, ("lost", (x, x))), len(model(rules, facts))),
+                         ([("lost", (1, 1)), ("lost", (3, 3))], 10))
+        self.assertTrue(accepts_book(rules, facts, make_book(rules, facts)))
+        self.assertFalse(accepts_book(rules, facts, make_book(rules, facts)[1:]))
+        self.assertEqual(derivation(rules, facts, ("lost", (3, 1)))[-1],
+                         (("lost", (3, 1)), ("rule", 2, [("x", 3), ("y", 1)])))
+        steps = [(("edge", (1, 2)), ("given",)), (("way", (1, 2)), ("rule", 0, [("x", 1), ("y", 2)]))]
+        self.assertTrue(accepts_derivation(rules, facts, [], steps))
 
 
 if __name__ == "__main__":
