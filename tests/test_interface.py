@@ -5,6 +5,8 @@ import inspect
 import unittest
 
 from retroact.answers import ask, model
+from retroact.cases import Unknown, accepts_cases, make_cases, state_of, where
+from retroact.desk import Desk
 from retroact.errors import Fault, InvalidMoment, NotLayered, TextError
 from retroact.facts import facts_of
 from retroact.handlers import run_handler
@@ -18,6 +20,7 @@ from retroact.program import Actor, Program
 from retroact.reader import read_program
 from retroact.rules import layers, sorted_facts
 from retroact.saga import Outside, Saga
+from retroact.unknown import bounds, part_at_least, parts_range, united, value_at
 from retroact.values import evaluate, evaluate_all
 from retroact.writer import write_program
 
@@ -67,6 +70,19 @@ FUNCTIONS = {
         "make_book": "(rules, facts)", "accepts_book": "(rules, facts, book)", "derivation": "(rules, facts, fact)",
         "accepts_derivation": "(rules, facts, known, steps)",
     },
+    "unknown": {
+        "value_at": "(form, u)", "bounds": "(form, interval)", "part_at_least": "(form, interval)",
+        "parts_range": "(intervals, least, greatest)", "united": "(intervals)",
+    },
+    "cases": {
+        "make_cases": "(program, events, unknown)", "state_of": "(case, u)",
+        "accepts_cases": "(program, events, unknown, cases)", "where": "(program, events, unknown, path, condition)",
+    },
+    "report": {
+        "told_line": "(told)", "state_report": "(program, state)", "changes_report": "(first, second)",
+        "branch_report": "(program, events, one)", "by_names": "(old, new)",
+    },
+    "desk": {"answers_of": "(lines)"},
 }
 CLASSES = {
     "errors": {
@@ -112,6 +128,11 @@ CLASSES = {
                     "done": "(self)"},
         "Saga": {"__init__": "(self, there, here, deeds, *, text='')", "step": "(self, outside)", "text": "(self)"},
     },
+    "cases": {
+        "Unknown": {"__init__": "(self, moment, index, least, greatest)"},
+        "Case": {"__init__": "(self, least, greatest, done, told, state)"},
+    },
+    "desk": {"Desk": {"__init__": "(self)", "obey": "(self, line)", "lines": "(self)", "history": "(self)"}},
 }
 
 
@@ -234,6 +255,38 @@ class ExampleTests(unittest.TestCase):
                          (("lost", (3, 1)), ("rule", 2, [("x", 3), ("y", 1)])))
         steps = [(("edge", (1, 2)), ("given",)), (("way", (1, 2)), ("rule", 0, [("x", 1), ("y", 2)]))]
         self.assertTrue(accepts_derivation(rules, facts, [], steps))
+
+    def test_forms_and_intervals(self):
+        self.assertEqual((value_at((2, -7), 5), bounds((-3, 1), (0, 4)), part_at_least((2, -7), (0, 9)), part_at_least((0, -1), (0, 9))),
+                         (3, (-11, 1), (4, 9), None))
+        self.assertEqual((parts_range([(0, 3), (4, 4), (5, 9)], 0, 9), united([(0, 3), (4, 4), (6, 9)])), (True, [(0, 4), (6, 9)]))
+
+    def test_cases(self):
+        body = [("if", ("less", ("number", 9), ("name", "x")), [("set", "n", ("number", 9))],
+                 [("set", "n", ("plus", ("name", "n"), ("name", "x")))])]
+        program = Program([], [Actor("shop", [], [("n", ("number", 4))], [("add", ["x"], body)])])
+        events = [("input", (), "add", (3,)), ("deliver", 0)]
+        cases = make_cases(program, events, Unknown(0, 0, 0, 50))
+        self.assertEqual([state_of(case, 3).beings[()].states for case in cases if case.least <= 3 <= case.greatest], [{"n": 7}])
+        self.assertTrue(accepts_cases(program, events, Unknown(0, 0, 0, 50), cases))
+        self.assertFalse(accepts_cases(program, events, Unknown(0, 0, 0, 50), cases[1:]))
+        condition = ("less", ("number", 8), ("name", "n"))
+        self.assertEqual(where(program, events, Unknown(0, 0, 0, 50), (), condition), [(5, 50)])
+
+    def test_the_desk(self):
+        desk = Desk()
+        lines = ["effect pay 1", "actor shop", "state n = 4", "on add(x)", "set n = n + x", "call pay(n)", "end", "end"]
+        self.assertEqual(([desk.obey("text " + line) for line in lines][7], desk.obey("load"), desk.obey("inputs")),
+                         (["lines 8"], ["loaded 1"], ["main add 1"]))
+        self.assertEqual((desk.obey("event input main add 3"), desk.obey("event deliver 0"), desk.obey("event deliver 0")),
+                         (["input main add"], ["handled main add done"], ["refused impossible"]))
+        self.assertEqual((desk.obey("state 2"), desk.obey("changes 0 2")),
+                         (["main shop on n=7", "calls main 0 pay 7"], ["state main n 4 7", "calls main 0"]))
+        lines[4] = "set n = n + x + x"
+        self.assertEqual(([desk.obey("text " + line) for line in lines][0], desk.obey("rebase 0")), (["lines 1"], [
+            "fits input main add 3", "fits deliver 0", "undo main 0 pay 7", "do main 0 pay 10", "cost 1"]))
+        self.assertEqual((desk.obey("journal"), desk.obey("back 1"), desk.obey("state 3")),
+                         (["input main add 3", "deliver 0"], ["at 1"], ["refused number"]))
 
 
 if __name__ == "__main__":
