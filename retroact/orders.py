@@ -112,9 +112,10 @@ def _rebase(work, words):
 def _accept(work, words):
     one = _branch_by_names(work, words[1])
     answer = _report_branch(work, one)
+    events = work.history.events()[:one.moment] + branch_events(one)
     history = History(one.patch.program)
     try:
-        for event in work.history.events()[:one.moment] + branch_events(one):
+        for event in events:
             history.record(event)
     except ImpossibleEvent:
         raise Refused("impossible") from None

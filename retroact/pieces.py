@@ -107,10 +107,8 @@ def _with_forms(state):
 
 
 def _are_alike(piece, other):
-    """Tell if two pieces differ in nothing but numbers."""
-    if piece.is_ended != other.is_ended or piece.told != other.told:
-        return False
-    return same_shape(piece.state, other.state)
+    """Tell if two pieces differ in nothing but numbers; where one has ended and the other one has not, more is told."""
+    return piece.told == other.told and same_shape(piece.state, other.state)
 
 
 def _one_of_both(piece, other):

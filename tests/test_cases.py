@@ -95,12 +95,14 @@ class MadeCasesTests(CaseTestCase):
         self.assertEqual((case.done, case.state.waiting[0][2]), (1, ((1, 0), (0, 4))))
 
     def test_a_range_of_one_number(self):
-        program = shop("set n = x * x; if x < 3; set m = 1; end; call pay(x + n)")
+        program = shop("set n = x * x; if x < 3; set m = 1; end; call pay(x + n); call pay(x)")
         for u in (-7, 0, 2, 3, 31000, 40000, *WIDE):
             case, = self.right_cases(program, ADD, Unknown(0, 0, u, u))
             self.assertEqual((case.least, case.greatest), (u, u))
             state = plain_run(program, ADD, Unknown(0, 0, u, u), u)[2]
             self.assertTrue(same_state(state_of(case, u), state))
+            self.assertEqual(case.state.beings[()].states, {name: (0, n) for name, n in state.beings[()].states.items()})
+            self.assertEqual([row[2] for row in case.state.gone], [tuple([(0, n) for n in row[2]]) for row in state.gone])
 
     def test_ranges_of_a_few_numbers(self):
         for least in range(-4, 5):
@@ -136,6 +138,23 @@ class MadeCasesTests(CaseTestCase):
         self.assertEqual(self.starts("if x < 3; set n = x; else; set n = x; end"), [-60])
         self.assertEqual(self.starts("if x = 3; set n = 3; else; set n = x; end"), [-60])
         self.assertEqual(self.starts("repeat 20; set m = m + 1; if x = m; set n = n + 1; end; end; set n = 0"), [-60])
+        # A single number ahead of others, behind them, and beside another single one.
+        self.assertEqual(self.starts("if x = 3; set n = 3; else; set n = x; end", ADD, 3, 60), [3])
+        self.assertEqual(self.starts("if x = 3; set n = 3; else; set n = x; end", ADD, -60, 3), [-60])
+        self.assertEqual(self.starts("if x = 3; set n = 10; else; set n = x; end", ADD, 3, 4), [3])
+
+    def test_forms_that_meet_at_one_end_alone(self):
+        self.assertEqual(self.starts("if x < 3; set n = 3; else; set n = x; end"), [-60, 3])
+        self.assertEqual(self.starts("if x < 3; set n = 2; else; set n = x; end"), [-60, 3])
+        self.assertEqual(self.starts("if x < 3; set n = x; else; set n = 3; end"), [-60, 3])
+        self.assertEqual(self.starts("if x < 3; set n = 2 * x - 3; else; set n = x; end"), [-60, 3])
+
+    def test_forms_that_do_not_meet_are_cases_of_their_own(self):
+        for other in (0, 2, 4, 10):
+            self.assertEqual(self.starts(f"if x = 3; set n = {other}; else; set n = x; end"), [-60, 3, 4])
+            self.assertEqual(self.starts(f"if x = 3; set n = {other}; else; set n = x; end", ADD, 3, 60), [3, 4])
+            self.assertEqual(self.starts(f"if x = 3; set n = {other}; else; set n = x; end", ADD, -60, 3), [-60, 3])
+            self.assertEqual(self.starts(f"if x < 3; set n = {other}; else; set n = x; end", ADD, 1, 60), [1, 3])
 
     def test_repeats(self):
         self.assertEqual(self.starts("repeat 3; set n = n + x; end; repeat n < 10; stop; end"), [-60, 2])
@@ -451,6 +470,8 @@ class AcceptTests(unittest.TestCase):
         self.assertFalse(self.accepts([second]))
         self.assertFalse(self.accepts([second, first]))
         self.assertFalse(self.accepts([first, first, second]))
+        self.assertFalse(self.accepts([remade(first, least=0, greatest=-1), first, second]))
+        self.assertFalse(self.accepts([first, remade(first, least=10, greatest=9), second]))
         self.assertFalse(self.accepts([remade(first, greatest=8), second]))
         self.assertFalse(self.accepts([first, remade(second, least=11)]))
         self.assertFalse(self.accepts([first, remade(second, least=9)]))

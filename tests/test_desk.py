@@ -329,12 +329,17 @@ class RebaseTests(DeskTestCase):
                                             "misfit call", "misfit waiting", "undo main 0 pay 7", "do main 0 pay 0", "cost 1"])):
             desk = drafted([line.replace(*change) for line in SHOP], *lines)
             self.assertEqual(desk.obey("rebase 0"), answer)
+            self.assertEqual(desk.obey("accept 0"), answer)
+            # The events that fit are left, as they were fitted.
+            self.assertEqual(desk.obey("journal"), [line[len("fits "):] for line in answer if line.startswith("fits")])
 
     def test_an_actor_that_is_not_there(self):
         desk = drafted([line.replace("spawn part as a", "set a = 0") for line in SHOP], *EVENTS, "event input 0 go 3")
         self.assertEqual(desk.obey("rebase 0")[2:], ["fits input main grow", "fits deliver 0", "misfit actor", "cost 0"])
-        # At a later moment the actor is there, as it was.
+        # At a later moment the actor is there, as it was; but not in a history of the new program.
         self.assertEqual(desk.obey("rebase 4"), ["fits input 0 go 3", "cost 0"])
+        self.refused(desk, "accept 4", "impossible")
+        self.assertEqual(desk.obey("accept 0")[4:], ["misfit actor", "cost 0"])
 
     def test_more_than_12_calls(self):
         for many, cost in ((12, "cost 12"), (13, "cost large")):

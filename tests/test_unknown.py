@@ -83,6 +83,11 @@ class PartsTests(unittest.TestCase):
         self.assertFalse(parts_range([(4, 9), (0, 3)], 0, 9))
         self.assertFalse(parts_range([(0, 3), (5, 9), (4, 4)], 0, 9))
 
+    def test_what_is_no_interval(self):
+        self.assertFalse(parts_range([(0, -1), (0, 9)], 0, 9))
+        self.assertFalse(parts_range([(0, 9), (10, 9)], 0, 9))
+        self.assertFalse(parts_range([(0, 5), (6, 3), (4, 9)], 0, 9))
+
     def test_the_empty_list(self):
         self.assertFalse(parts_range([], 0, 9))
         self.assertFalse(parts_range([], 4, 4))

@@ -121,6 +121,11 @@ class WhereTests(unittest.TestCase):
         many = shop("repeat 20; repeat 15; set m = m + 1; if x = m * 6; set n = 0 - n; end; end; end")
         self.assertEqual(self.answer(many, less(var("n"), num(0)), Unknown(0, 0, 1, 240)), [(6 * k, 6 * k) for k in range(1, 41)])
 
+    def test_as_many_changes_as_there_may_be(self):
+        # The state is 1 for the even numbers from 2 to 400: for 399 numbers the next one has another answer.
+        program = shop("set n = 0; repeat 20; repeat 10; set m = m + 1; if x = m * 2; set n = 1; end; end; end")
+        self.assertEqual(self.answer(program, var("n"), Unknown(0, 0, 2, WIDE[1])), [(u, u) for u in range(2, 401, 2)])
+
     def test_invalid_unknowns(self):
         for row in ((-1, 0, 0, 9), (1, 0, 0, 9), (2, 0, 0, 9), (0, 1, 0, 9), (0, -1, 0, 9), (0, 0, 9, 0), (0, 0, 0, 1000000001)):
             with self.assertRaises(InvalidUnknown):
