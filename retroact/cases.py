@@ -1,10 +1,10 @@
 """What would have been for each value of an unknown argument, told case by case."""
 
-from retroact.errors import Fault, InvalidUnknown, TooLarge
-from retroact.narrowing import Narrowing
-from retroact.pieces import MOST_CASES, MOST_LOOKS, pieces_behind
+from retroact.courses import MOST_CASES
+from retroact.errors import InvalidUnknown, TooLarge
+from retroact.search import Search
 from retroact.shapes import numbers_of, same_shape, with_numbers
-from retroact.unknown import parts_range, united, value_at
+from retroact.unknown import parts_range, value_at
 from retroact.values import is_value
 
 
@@ -31,12 +31,8 @@ class Case:
 
 def make_cases(program, events, unknown):
     """Return accepted cases, or raise InvalidUnknown or TooLarge."""
-    if not _is_valid(events, unknown):
-        raise InvalidUnknown()
-    pieces = pieces_behind(program, events, unknown)
-    if len(pieces) > MOST_CASES:
-        raise TooLarge("cases")
-    return [_case_of(piece) for piece in pieces]
+    search = _searched(program, events, unknown, (), ("number", 0))
+    return [_case_of(piece) for piece in search.pieces.best()]
 
 
 def state_of(case, u):
@@ -64,19 +60,7 @@ def accepts_cases(program, events, unknown, cases):
 
 def where(program, events, unknown, path, condition):
     """Return the longest intervals of the range for whose numbers the condition holds, or raise as make_cases."""
-    found = []
-    looks = 0
-    for case in make_cases(program, events, unknown):
-        least = case.least
-        while path in case.state.beings and least <= case.greatest:
-            narrowing = Narrowing(least, case.greatest)
-            if _holds(condition, case.state.beings[path].states, narrowing):
-                found.append((least, narrowing.greatest))
-            least = narrowing.greatest + 1
-            looks += 1
-            if looks > MOST_LOOKS:
-                raise TooLarge("cases")
-    answer = united(found)
+    answer = _searched(program, events, unknown, path, condition).answer
     # Each end of an interval within the range would begin another case.
     ends = [first for first, last in answer if first > unknown.least]
     ends.extend([last for first, last in answer if last < unknown.greatest])
@@ -94,11 +78,21 @@ def _is_valid(events, unknown):
     return 0 <= unknown.index < len(events[unknown.moment][3])
 
 
+def _searched(program, events, unknown, path, condition):
+    """Return the search through the range, or raise InvalidUnknown or TooLarge."""
+    if not _is_valid(events, unknown):
+        raise InvalidUnknown()
+    search = Search(program, events, unknown)
+    search.look_through(path, condition)
+    return search
+
+
 def _case_of(piece):
-    forms = numbers_of(piece.state)
+    forms = piece.forms
     if piece.least == piece.greatest:
         forms = [(0, value_at(form, piece.least)) for form in forms]
-    return Case(piece.least, piece.greatest, len(piece.told), piece.told, with_numbers(piece.state, forms))
+    told = piece.course.told
+    return Case(piece.least, piece.greatest, len(told), told, with_numbers(piece.course.state, forms))
 
 
 def _agree(case, other):
@@ -111,10 +105,3 @@ def _agree(case, other):
         if not all([value_at(form, u) == value_at(right, u) for u in ends]):
             return False
     return True
-
-
-def _holds(condition, states, narrowing):
-    try:
-        return narrowing.is_true(narrowing.reckon(condition, states))
-    except Fault:
-        return False

@@ -1,125 +1,108 @@
-"""What events make of an unknown argument, piece by piece of its range."""
+"""Pieces of a range, on each of which all is told by one form for each number."""
 
+from retroact.courses import MOST_CASES
 from retroact.errors import TooLarge
-from retroact.machine import apply_with, first_state, is_possible
-from retroact.narrowing import Narrowing
-from retroact.shapes import numbers_of, same_shape, with_numbers
+from retroact.shapes import numbers_of, same_shape
+from retroact.tracks import cut_to
 from retroact.unknown import value_at
-
-MOST_CASES = 400
-# What differs in numbers alone may become one again by later events: so more pieces than cases are kept at first,
-# and still more are looked at for one event.
-MOST_PIECES = 1000
-MOST_LOOKS = 4000
 
 
 class Piece:
-    """An interval of the range, and what the events so far have told and made for each of its numbers."""
+    """An interval, the course that its numbers belong to, and the forms of the numbers in the state of the course."""
 
-    def __init__(self, least, greatest, told, state, is_ended):
+    def __init__(self, least, greatest, course, forms):
         self.least = least
         self.greatest = greatest
-        self.told = told
-        self.state = state
-        # True if an event was not possible.
-        self.is_ended = is_ended
+        self.course = course
+        self.forms = forms
 
 
 class Row:
-    """Pieces that part the range as far as they go; two neighbours that can be told as one are one piece."""
+    """Pieces in ascending order; two neighbours that can be told as one are one piece.
 
-    def __init__(self):
+    If it is tight, each piece is as long as it can be, behind the ones before it, so that no row has fewer pieces.
+    Otherwise a piece is never cut.
+    """
+
+    def __init__(self, is_tight):
+        self.is_tight = is_tight
         self.pieces = []
-        self.looks = 0
-        # How often neighbours differ in something else than numbers.
-        self.breaks = 0
 
     def put(self, piece):
-        """Put a piece behind the others, or raise TooLarge if there are too many."""
-        self.looks += 1
-        whole = None
+        """Put a piece behind the others."""
         if self.pieces:
-            last = self.pieces[-1]
-            if _are_alike(last, piece):
-                whole = _one_of_both(last, piece)
-            else:
-                self.breaks += 1
-        if whole is None:
-            self.pieces.append(piece)
-        else:
-            self.pieces[-1] = whole
-        if self.looks > MOST_LOOKS or len(self.pieces) > MOST_PIECES or self.breaks >= MOST_CASES:
+            joined = _one_of_both(self.pieces[-1], piece)
+            if joined is not None:
+                self.pieces[-1] = joined
+                return
+            if self.is_tight and piece.least < piece.greatest:
+                piece = self._put_first(piece)
+        self.pieces.append(piece)
+
+    def _put_first(self, piece):
+        """Put the first number of a piece into the last one, if it can be told there; return what is left."""
+        # No more than one number can: two of them have the forms of the whole piece.
+        first = Piece(piece.least, piece.least, piece.course, piece.forms)
+        joined = _one_of_both(self.pieces[-1], first)
+        if joined is None:
+            return piece
+        self.pieces[-1] = joined
+        return Piece(piece.least + 1, piece.greatest, piece.course, piece.forms)
+
+
+class Pieces:
+    """The pieces of a range, as the courses have them, and as few as they can be."""
+
+    def __init__(self):
+        self.plain = Row(False)
+        self.fewest = Row(True)
+
+    def add_courses(self, courses):
+        """Add the pieces of the courses of the numbers that come next, or raise TooLarge if they are too many."""
+        starts = [(least, greatest, at) for at, course in enumerate(courses) for least, greatest in course.domain]
+        for least, greatest, at in sorted(starts):
+            self._add_interval(courses[at], least, greatest)
+
+    def best(self):
+        """Return the list of the pieces, at most as many as there may be cases."""
+        if len(self.plain.pieces) <= MOST_CASES:
+            return self.plain.pieces
+        return self.fewest.pieces
+
+    def _add_interval(self, course, least, greatest):
+        tracks = [cut_to(track, [(least, greatest)]) for track in numbers_of(course.state)]
+        starts = sorted(set([least] + [segment[0] for track in tracks for segment in track]))
+        ends = [start - 1 for start in starts[1:]] + [greatest]
+        places = [0] * len(tracks)
+        for start, end in zip(starts, ends):
+            places = [at + 1 if track[at][1] < start else at for at, track in zip(places, tracks)]
+            forms = [track[at][2:] for at, track in zip(places, tracks)]
+            self._add(Piece(start, end, course, forms))
+
+    def _add(self, piece):
+        self.fewest.put(piece)
+        if len(self.fewest.pieces) > MOST_CASES:
             raise TooLarge("cases")
-
-
-def pieces_behind(program, events, unknown):
-    """Return the list of the pieces of the range behind the replaced events, or raise TooLarge."""
-    pieces = [Piece(unknown.least, unknown.greatest, [], _with_forms(first_state(program)), False)]
-    for at, event in enumerate(events):
-        index = unknown.index if at == unknown.moment else None
-        # For values it is the same whether an event is possible: each of them may stand for the unknown.
-        plain = _replaced(event, index, unknown.least)
-        row = Row()
-        for piece in pieces:
-            if piece.is_ended or not is_possible(program, piece.state, plain):
-                row.put(Piece(piece.least, piece.greatest, piece.told, piece.state, True))
-            else:
-                _apply_to(program, piece, _event_of_forms(plain, index), at, row)
-        pieces = row.pieces
-    return pieces
-
-
-def _apply_to(program, piece, event, moment, row):
-    """Put into the row what an event makes of a piece."""
-    least = piece.least
-    while least <= piece.greatest:
-        narrowing = Narrowing(least, piece.greatest)
-        state, told = apply_with(program, piece.state, event, moment, narrowing)
-        # An actor that fails at its birth has plain numbers.
-        if len(state.beings) > len(piece.state.beings):
-            state = _with_forms(state)
-        row.put(Piece(least, narrowing.greatest, [*piece.told, told], state, False))
-        least = narrowing.greatest + 1
-
-
-def _replaced(event, index, number):
-    """Return the event with the number in the place of the argument with the index, if there is an index."""
-    if index is None:
-        return event
-    word, path, message, arguments = event
-    return (word, path, message, arguments[:index] + (number,) + arguments[index + 1:])
-
-
-def _event_of_forms(event, index):
-    """Return the event with forms in the place of its values; the argument with the index is the unknown."""
-    if event[0] == "deliver":
-        return event
-    if event[0] == "answer":
-        return ("answer", event[1], (0, event[2]))
-    word, path, message, arguments = event
-    return (word, path, message, tuple([(1, 0) if k == index else (0, n) for k, n in enumerate(arguments)]))
-
-
-def _with_forms(state):
-    """Return the state with forms in the place of plain numbers."""
-    forms = [number if isinstance(number, tuple) else (0, number) for number in numbers_of(state)]
-    return with_numbers(state, forms)
-
-
-def _are_alike(piece, other):
-    """Tell if two pieces differ in nothing but numbers; where one has ended and the other one has not, more is told."""
-    return piece.told == other.told and same_shape(piece.state, other.state)
+        # These are at most twice as many: one within each of the fewest, and one over the end of each.
+        self.plain.put(piece)
 
 
 def _one_of_both(piece, other):
-    """Return the piece that has the numbers of a piece and of the one behind it, or None if their forms differ."""
+    """Return the piece that has the numbers of a piece and of the one behind it, or None if they cannot be told so."""
+    if not _are_alike(piece.course, other.course):
+        return None
     forms = []
-    for form, behind in zip(numbers_of(piece.state), numbers_of(other.state)):
-        whole = _form_of_both(form, piece, behind, other)
-        if whole is None:
+    for form, behind in zip(piece.forms, other.forms):
+        joined = _form_of_both(form, piece, behind, other)
+        if joined is None:
             return None
-        forms.append(whole)
-    return Piece(piece.least, other.greatest, piece.told, with_numbers(piece.state, forms), piece.is_ended)
+        forms.append(joined)
+    return Piece(piece.least, other.greatest, piece.course, forms)
+
+
+def _are_alike(course, other):
+    """Tell if two courses differ in nothing but numbers; where one has ended and the other has not, more is told."""
+    return course == other or course.told == other.told and same_shape(course.state, other.state)
 
 
 def _form_of_both(form, piece, behind, other):

@@ -34,16 +34,17 @@ def with_numbers(state, numbers):
 
 def same_shape(state, other):
     """Tell if two states are equal in all but their numbers."""
-    return _shape_of(state) == _shape_of(other)
+    return shape_of(state) == shape_of(other)
 
 
-def _shape_of(state):
-    """Return all that a state is besides its numbers."""
+def shape_of(state):
+    """Return all that a state is besides its numbers, as a tuple."""
     beings = []
     for path in sorted(state.beings):
         being = state.beings[path]
-        beings.append((path, being.kind, sorted(being.states), being.spawned, being.sent, being.called, being.mode))
-    kept = [beings]
+        names = tuple(sorted(being.states))
+        beings.append((path, being.kind, names, being.spawned, being.sent, being.called, being.mode))
+    kept = [tuple(beings)]
     for rows in (state.waiting, state.pending, state.gone):
-        kept.append([(row[0], row[1], len(row[2]), row[3:]) for row in rows])
-    return kept
+        kept.append(tuple([(row[0], row[1], len(row[2]), *row[3:]) for row in rows]))
+    return tuple(kept)

@@ -339,7 +339,7 @@ class TooLargeTests(CaseTestCase):
         self.assertEqual(len(self.starts("if x rest 2; stop; end", ADD, 1, 400)), 400)
 
     def test_more_cases_than_there_may_be(self):
-        for body in ("if x rest 2; stop; end", "set n = x * x", "send child(x) go(x)", "repeat 100 - x; set n = n + x * x; end"):
+        for body in ("if x rest 2; stop; end", "set n = x * x", "send child(x) go(x)", "repeat (x rest 20) + 1; call pay(x); end"):
             with self.assertRaises(TooLarge) as caught:
                 make_cases(shop(body), ADD, Unknown(0, 0, *WIDE))
             self.assertEqual(caught.exception.limit, "cases")

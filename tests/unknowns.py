@@ -4,6 +4,7 @@ import random
 
 from retroact.machine import apply, first_state, inputs_of, is_possible
 from retroact.program import Actor, Program
+from retroact.shapes import numbers_of, shape_of
 
 NUMBERS = (0, 1, 2, 3, 5, -1, -4, 7, 10, 20, 50, 100, -30, 999999999, 1000000000)
 WIDE = (-1000000000, 1000000000)
@@ -26,6 +27,47 @@ def plain_run(program, events, unknown, u):
         state, row = apply(program, state, event, moment)
         told.append(row)
     return len(told), told, state
+
+
+def fewest_cases(program, events, unknown):
+    """Return how many cases there are at the least, by a plain run for each number."""
+    rows = []
+    for u in range(unknown.least, unknown.greatest + 1):
+        _, told, state = plain_run(program, events, unknown, u)
+        rows.append(((told, shape_of(state)), numbers_of(state)))
+    many, begin = 0, 0
+    while begin < len(rows):
+        many, end = many + 1, begin + 1
+        steps = None
+        while end < len(rows) and rows[end][0] == rows[begin][0]:
+            behind = [b - a for a, b in zip(rows[end - 1][1], rows[end][1])]
+            if steps not in (None, behind):
+                break
+            steps, end = behind, end + 1
+        begin = end
+    return many
+
+
+def balanced(word, parts):
+    """Return the expression that joins expressions by a word, nested as little as can be."""
+    if len(parts) == 1:
+        return parts[0]
+    middle = (len(parts) + 1) // 2
+    return (word, balanced(word, parts[:middle]), balanced(word, parts[middle:]))
+
+
+def never(name, least, greatest):
+    """Return an expression that compares a name with known numbers, and is 0 for each value from least to greatest."""
+    if least == greatest:
+        return ("same", ("plus", name, name), ("number", 2 * least + 1))
+    middle = (least + greatest) // 2
+    low = ("and", ("less", name, ("number", middle + 1)), never(name, least, middle))
+    return ("or", low, ("and", ("less", ("number", middle), name), never(name, middle + 1, greatest)))
+
+
+def steps(name, length, many):
+    """Return an expression that is less by 1 for each multiple of the length, up to so many of them, not above a name."""
+    return balanced("plus", [("less", name, ("number", length * k)) for k in range(1, many + 1)])
 
 
 class Parter:
